@@ -1,0 +1,234 @@
+package impl
+
+import (
+	"cmp"
+	"math/bits"
+	"strconv"
+	"strings"
+)
+
+// Constants of chapter 1.
+const (
+	OK           = 0
+	ErrInvalid   = 1
+	ErrRange     = 2
+	ErrNotFound  = 3
+	ErrExists    = 4
+	ErrFull      = 5
+	ErrState     = 6
+	ErrOrder     = 7
+	ErrSyntax    = 8
+	ErrFormat    = 9
+	ErrChecksum  = 10
+	ErrTruncated = 11
+	MaxName      = 10
+	MaxList      = 64
+	MaxBudget    = 20000
+	MaxValue     = 1000000000000
+	CrcStart     = 65535
+)
+
+const (
+	maxDigits = 18
+	maxBlend  = 1000000
+	maxCrc    = 65535
+	crcRule   = 4129
+	emptyList = "-"
+)
+
+// CodeName returns the name of an error code.
+func CodeName(code int64) string {
+	names := [...]string{
+		OK:           "ok",
+		ErrInvalid:   "invalid",
+		ErrRange:     "range",
+		ErrNotFound:  "not-found",
+		ErrExists:    "exists",
+		ErrFull:      "full",
+		ErrState:     "state",
+		ErrOrder:     "order",
+		ErrSyntax:    "syntax",
+		ErrFormat:    "format",
+		ErrChecksum:  "checksum",
+		ErrTruncated: "truncated",
+	}
+	if !within(OK, ErrTruncated, code) {
+		return ""
+	}
+	return names[code]
+}
+
+// IsName reports whether s is a name.
+func IsName(s string) bool {
+	if !within(1, MaxName, len(s)) || !within('a', 'z', s[0]) {
+		return false
+	}
+	for i := range len(s) {
+		if !within('a', 'z', s[i]) && !within('0', '9', s[i]) {
+			return false
+		}
+	}
+	return true
+}
+
+// Decimal returns a number in decimal.
+func Decimal(n int64) string { return strconv.FormatInt(n, 10) }
+
+// ReadDecimal returns the number with a decimal form.
+func ReadDecimal(s string) (int64, bool) {
+	if len(strings.TrimPrefix(s, "-")) > maxDigits {
+		return 0, false
+	}
+	n, err := strconv.ParseInt(s, 10, 64)
+	// ParseInt also accepts plus signs, leading zeros and -0, which Decimal never writes.
+	if err != nil || Decimal(n) != s {
+		return 0, false
+	}
+	return n, true
+}
+
+// SplitWords divides a line at blanks.
+func SplitWords(s string) []string {
+	// Not strings.Fields: only the blank divides words, a tab or a newline is part of one.
+	return strings.FieldsFunc(s, func(r rune) bool { return r == ' ' })
+}
+
+// ListText returns a list of numbers as text.
+func ListText(list []int64) string {
+	if len(list) == 0 {
+		return emptyList
+	}
+	if len(list) > MaxList || !within(-MaxValue, MaxValue, list[0], list[1:]...) {
+		return ""
+	}
+	parts := make([]string, len(list))
+	for i, n := range list {
+		parts[i] = Decimal(n)
+	}
+	return strings.Join(parts, ",")
+}
+
+// ReadList returns the list with a text.
+func ReadList(s string) ([]int64, bool) {
+	if s == emptyList {
+		return []int64{}, true
+	}
+	// One part more than allowed is enough to see that there are too many.
+	parts := strings.SplitN(s, ",", MaxList+1)
+	if len(parts) > MaxList {
+		return nil, false
+	}
+	list := make([]int64, len(parts))
+	for i, part := range parts {
+		n, ok := ReadDecimal(part)
+		if !ok || !within(-MaxValue, MaxValue, n) {
+			return nil, false
+		}
+		list[i] = n
+	}
+	return list, true
+}
+
+// Crc16 returns the check value of bytes.
+func Crc16(s string, start int64) int64 {
+	if !within(0, maxCrc, start) {
+		return 0
+	}
+	crc := start
+	for i := range len(s) {
+		crc ^= int64(s[i]) * 256
+		for range 8 {
+			crc *= 2
+			if crc > maxCrc {
+				crc = crc&maxCrc ^ crcRule
+			}
+		}
+	}
+	return crc
+}
+
+// RootOf returns the square root, rounded down.
+func RootOf(n int64) int64 {
+	if n < 0 {
+		return 0
+	}
+	root := uint64(0)
+	// Squares are compared without signs: a trial root has at most 32 bits, its square at most 64.
+	for bit := uint64(1) << (bits.Len64(uint64(n)) / 2); bit > 0; bit /= 2 {
+		if trial := root | bit; trial*trial <= uint64(n) {
+			root = trial
+		}
+	}
+	return int64(root)
+}
+
+// DivRound returns the nearest quotient.
+func DivRound(a, b int64) int64 {
+	if !within(-MaxValue, MaxValue, a, b) {
+		return 0
+	}
+	return nearest(a, b)
+}
+
+// Blend returns a number on a line through two points.
+func Blend(x0, y0, x1, y1, x int64) int64 {
+	if !within(-maxBlend, maxBlend, x0, y0, x1, y1) {
+		return 0
+	}
+	return onLine(x0, y0, x1, y1, x)
+}
+
+// nearest is DivRound without its limits, as the formulas of later chapters round.
+func nearest(a, b int64) int64 {
+	if b == 0 {
+		return 0
+	}
+	top, bottom := magnitude(a), magnitude(b)
+	quotient, rest := top/bottom, top%bottom
+	// Twice the rest might not fit, so it is compared with what it lacks.
+	if rest >= bottom-rest {
+		quotient++
+	}
+	if (a < 0) != (b < 0) {
+		return -int64(quotient)
+	}
+	return int64(quotient)
+}
+
+// onLine is Blend without its limits, as later chapters use it.
+func onLine(x0, y0, x1, y1, x int64) int64 {
+	if x <= x0 || x1 <= x0 {
+		return y0
+	}
+	if x >= x1 {
+		return y1
+	}
+	return y0 + nearest((y1-y0)*(x-x0), x1-x0)
+}
+
+// magnitude has no sign, because that of the least int64 does not fit into an int64.
+func magnitude(n int64) uint64 {
+	if n < 0 {
+		return -uint64(n)
+	}
+	return uint64(n)
+}
+
+// within reports whether all values lie from low to high.
+func within[T cmp.Ordered](low, high, first T, rest ...T) bool {
+	return least(first, rest...) >= low && greatest(first, rest...) <= high
+}
+
+func least[T cmp.Ordered](first T, rest ...T) T {
+	for _, v := range rest {
+		first = min(first, v)
+	}
+	return first
+}
+
+func greatest[T cmp.Ordered](first T, rest ...T) T {
+	for _, v := range rest {
+		first = max(first, v)
+	}
+	return first
+}
