@@ -3,6 +3,7 @@ package impl
 import (
 	"cmp"
 	"math/bits"
+	"sort"
 	"strconv"
 	"strings"
 )
@@ -206,6 +207,12 @@ func onLine(x0, y0, x1, y1, x int64) int64 {
 	return y0 + nearest((y1-y0)*(x-x0), x1-x0)
 }
 
+// leastWith returns the least number from low to high that fits, if all above it fit as well; high + 1 if none does.
+func leastWith(low, high int64, fits func(int64) bool) int64 {
+	steps := sort.Search(int(high-low+1), func(step int) bool { return fits(low + int64(step)) })
+	return low + int64(steps)
+}
+
 // magnitude has no sign, because that of the least int64 does not fit into an int64.
 func magnitude(n int64) uint64 {
 	if n < 0 {
@@ -213,6 +220,9 @@ func magnitude(n int64) uint64 {
 	}
 	return uint64(n)
 }
+
+// absolute is for numbers within the limits of a chapter, where magnitude is for all.
+func absolute(n int64) int64 { return max(n, -n) }
 
 // within reports whether all values lie from low to high.
 func within[T cmp.Ordered](low, high, first T, rest ...T) bool {
