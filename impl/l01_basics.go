@@ -99,7 +99,7 @@ func ListText(list []int64) string {
 	if len(list) == 0 {
 		return emptyList
 	}
-	if len(list) > MaxList || !within(-MaxValue, MaxValue, list[0], list[1:]...) {
+	if len(list) > MaxList || !within(-MaxValue, MaxValue, list...) {
 		return ""
 	}
 	parts := make([]string, len(list))
@@ -213,6 +213,9 @@ func leastWith(low, high int64, fits func(int64) bool) int64 {
 	return low + int64(steps)
 }
 
+// roundedUp is for numbers that are not negative.
+func roundedUp(a, b int64) int64 { return (a + b - 1) / b }
+
 // magnitude has no sign, because that of the least int64 does not fit into an int64.
 func magnitude(n int64) uint64 {
 	if n < 0 {
@@ -224,9 +227,36 @@ func magnitude(n int64) uint64 {
 // absolute is for numbers within the limits of a chapter, where magnitude is for all.
 func absolute(n int64) int64 { return max(n, -n) }
 
+// sumOf is for numbers within the limits of a chapter, whose sum fits.
+func sumOf(list []int64) int64 {
+	sum := int64(0)
+	for _, n := range list {
+		sum += n
+	}
+	return sum
+}
+
+// namedText is the text of a thing with an Id and numbers.
+func namedText(id string, numbers ...int64) string { return id + " " + ListText(numbers) }
+
+// readNamed returns the valid thing with a namedText, which is built of its Id and of as many numbers as it has.
+func readNamed[T any](s string, count int, build func(id string, numbers []int64) T, valid func(T) bool) (T, bool) {
+	var none T
+	id, rest, _ := strings.Cut(s, " ")
+	numbers, ok := ReadList(rest)
+	if !ok || len(numbers) != count {
+		return none, false
+	}
+	thing := build(id, numbers)
+	if !valid(thing) {
+		return none, false
+	}
+	return thing, true
+}
+
 // within reports whether all values lie from low to high.
-func within[T cmp.Ordered](low, high, first T, rest ...T) bool {
-	return least(first, rest...) >= low && greatest(first, rest...) <= high
+func within[T cmp.Ordered](low, high T, values ...T) bool {
+	return least(low, values...) == low && greatest(high, values...) == high
 }
 
 func least[T cmp.Ordered](first T, rest ...T) T {
