@@ -213,6 +213,17 @@ func leastWith(low, high int64, fits func(int64) bool) int64 {
 	return low + int64(steps)
 }
 
+// firstGreatest returns the first index below a count at which a value is greatest, and this value; ErrNotFound if the count is 0.
+func firstGreatest(count int, value func(index int64) int64) (int64, int64, int64) {
+	best, most, code := int64(0), int64(0), int64(ErrNotFound)
+	for index := range int64(count) {
+		if n := value(index); code != OK || n > most {
+			best, most, code = index, n, OK
+		}
+	}
+	return best, most, code
+}
+
 // roundedUp is for numbers that are not negative.
 func roundedUp(a, b int64) int64 { return (a + b - 1) / b }
 
@@ -257,6 +268,16 @@ func readNamed[T any](s string, count int, build func(id string, numbers []int64
 // within reports whether all values lie from low to high.
 func within[T cmp.Ordered](low, high T, values ...T) bool {
 	return least(low, values...) == low && greatest(high, values...) == high
+}
+
+// areIncreasing reports whether each value is greater than the one before it.
+func areIncreasing[T cmp.Ordered](list []T) bool {
+	for i, v := range list {
+		if i > 0 && v <= list[i-1] {
+			return false
+		}
+	}
+	return true
 }
 
 func least[T cmp.Ordered](first T, rest ...T) T {

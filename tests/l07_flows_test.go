@@ -7,7 +7,6 @@ import (
 	"math/rand"
 	"reflect"
 	"slices"
-	"strings"
 	"testing"
 
 	"loop.example/g01021/impl"
@@ -90,76 +89,32 @@ func inAirway(f impl.Fan, airway int64) impl.Fan {
 	return f
 }
 
-// wrongLists returns lists that have not as many numbers as a good one, or one that is not from low to high.
-func wrongLists(good []int64, low, high int64) [][]int64 {
-	lists := [][]int64{append(slices.Clone(good), low), append(slices.Clone(good), slices.Repeat([]int64{high}, 1000)...)}
-	if len(good) > 0 {
-		lists = append(lists, nil, good[1:])
-	}
-	for i := range good {
-		for _, n := range []int64{math.MinInt64, low - 1, high + 1, math.MaxInt64} {
-			list := slices.Clone(good)
-			list[i] = n
-			lists = append(lists, list)
-		}
-	}
-	return lists
-}
-
-// fault is a group of changes that make one argument wrong, and the code of it in the functions that are told.
-type fault struct {
-	argument string
-	code     int64
-	in       string
-	changes  []func(s *setting)
-}
-
-// faultOfNumber has numbers at all sides beyond the limits of an argument.
-func faultOfNumber(argument, in string, low, high int64, set func(s *setting, n int64)) fault {
-	f := fault{argument: argument, code: impl.ErrRange, in: in}
-	for _, n := range []int64{math.MinInt64, low - 1, high + 1, math.MaxInt64} {
-		f.changes = append(f.changes, func(s *setting) { set(s, n) })
-	}
-	return f
-}
-
-func faultOfList(argument, in string, good []int64, low, high int64, set func(s *setting, list []int64)) fault {
-	f := fault{argument: argument, code: impl.ErrOrder, in: in}
-	for _, list := range wrongLists(good, low, high) {
-		f.changes = append(f.changes, func(s *setting) { set(s, list) })
-	}
-	return f
-}
-
-func faultsOfMineAndFans(s setting) []fault {
+func faultsOfMineAndFans(s setting) []fault[setting] {
 	all := "ResistancesOf ImbalanceAt FlowsOfMeshes PushesOf MeshErrors CorrectMesh SolveFlows LossPower StillAirways"
-	ofMine := fault{argument: "m", code: impl.ErrInvalid, in: all}
-	for _, m := range invalidMines() {
-		ofMine.changes = append(ofMine.changes, func(s *setting) { s.m = m })
-	}
-	ofFans := fault{argument: "fans", code: impl.ErrInvalid, in: "PushesOf SolveFlows"}
+	ofMine := faultOfMine(all, func(s *setting, m impl.Mine) { s.m = m })
+	ofFans := fault[setting]{argument: "fans", code: impl.ErrInvalid, in: "PushesOf SolveFlows"}
 	for _, list := range invalidFanLists() {
 		ofFans.changes = append(ofFans.changes, func(s *setting) { s.fans = list })
 	}
-	nowhere := fault{argument: "fans", code: impl.ErrOrder, in: "PushesOf SolveFlows"}
+	nowhere := fault[setting]{argument: "fans", code: impl.ErrOrder, in: "PushesOf SolveFlows"}
 	for _, airway := range []int64{int64(len(s.m.Airways)), 23} {
 		nowhere.changes = append(nowhere.changes,
 			func(s *setting) { s.fans = []impl.Fan{inAirway(levelFan("a", 0), airway)} },
 			func(s *setting) { s.fans = []impl.Fan{levelFan("a", 0), inAirway(levelFan("b", 0), airway)} },
 			func(s *setting) { s.fans = []impl.Fan{inAirway(levelFan("a", 0), airway), levelFan("b", 0)} })
 	}
-	narrow := fault{argument: "m", code: impl.ErrState, in: "ResistancesOf"}
+	narrow := fault[setting]{argument: "m", code: impl.ErrState, in: "ResistancesOf"}
 	for k := range s.m.Airways {
 		narrow.changes = append(narrow.changes, func(s *setting) {
 			s.m.Airways = slices.Clone(s.m.Airways)
 			s.m.Airways[k].Section, s.m.Airways[k].Length = 50, 10000
 		})
 	}
-	return []fault{ofMine, ofFans, nowhere, narrow}
+	return []fault[setting]{ofMine, ofFans, nowhere, narrow}
 }
 
 // faultsOf returns the faults of all arguments of a setting.
-func faultsOf(s setting) []fault {
+func faultsOf(s setting) []fault[setting] {
 	tilted, crowded := slices.Clone(s.start), slices.Repeat([]int64{100000}, len(s.amounts))
 	tilted[0]++
 	faults := append(faultsOfMineAndFans(s),
@@ -168,15 +123,15 @@ func faultsOf(s setting) []fault {
 		faultOfNumber("tolerance", "SolveFlows", 0, 100000, func(s *setting, n int64) { s.tolerance = n }),
 		faultOfNumber("rounds", "SolveFlows", 0, 500, func(s *setting, n int64) { s.rounds = n }),
 		faultOfNumber("least", "StillAirways", 0, 100000, func(s *setting, n int64) { s.least = n }),
-		faultOfList("flows", "ImbalanceAt PushesOf MeshErrors CorrectMesh LossPower StillAirways", s.flows, -100000, 100000, func(s *setting, list []int64) { s.flows = list }),
-		faultOfList("resistances", "MeshErrors CorrectMesh SolveFlows LossPower", s.resistances, 1, 1000000, func(s *setting, list []int64) { s.resistances = list }),
-		faultOfList("pushes", "MeshErrors CorrectMesh", s.pushes, -100000, 100000, func(s *setting, list []int64) { s.pushes = list }),
-		faultOfList("draught", "PushesOf SolveFlows", s.draught, -100000, 100000, func(s *setting, list []int64) { s.draught = list }),
-		faultOfList("start", "SolveFlows", s.start, -100000, 100000, func(s *setting, list []int64) { s.start = list }),
-		faultOfList("amounts", "FlowsOfMeshes", s.amounts, -100000, 100000, func(s *setting, list []int64) { s.amounts = list }),
-		fault{"start", impl.ErrState, "SolveFlows", []func(s *setting){func(s *setting) { s.start = tilted }}})
+		faultOfLists("flows", impl.ErrOrder, "ImbalanceAt PushesOf MeshErrors CorrectMesh LossPower StillAirways", wrongLists(s.flows, -100000, 100000), func(s *setting, list []int64) { s.flows = list }),
+		faultOfLists("resistances", impl.ErrOrder, "MeshErrors CorrectMesh SolveFlows LossPower", wrongLists(s.resistances, 1, 1000000), func(s *setting, list []int64) { s.resistances = list }),
+		faultOfLists("pushes", impl.ErrOrder, "MeshErrors CorrectMesh", wrongLists(s.pushes, -100000, 100000), func(s *setting, list []int64) { s.pushes = list }),
+		faultOfLists("draught", impl.ErrOrder, "PushesOf SolveFlows", wrongLists(s.draught, -100000, 100000), func(s *setting, list []int64) { s.draught = list }),
+		faultOfLists("start", impl.ErrOrder, "SolveFlows", wrongLists(s.start, -100000, 100000), func(s *setting, list []int64) { s.start = list }),
+		faultOfLists("amounts", impl.ErrOrder, "FlowsOfMeshes", wrongLists(s.amounts, -100000, 100000), func(s *setting, list []int64) { s.amounts = list }),
+		fault[setting]{"start", impl.ErrState, "SolveFlows", []func(s *setting){func(s *setting) { s.start = tilted }}})
 	if len(s.amounts) > 1 {
-		faults = append(faults, fault{"amounts", impl.ErrState, "FlowsOfMeshes", []func(s *setting){func(s *setting) { s.amounts = crowded }}})
+		faults = append(faults, fault[setting]{"amounts", impl.ErrState, "FlowsOfMeshes", []func(s *setting){func(s *setting) { s.amounts = crowded }}})
 	}
 	return faults
 }
@@ -195,61 +150,9 @@ func goodSettings() []setting {
 	}
 }
 
-// codesFor returns the code of each function of which a fault is told: of several that which comes first.
-func codesFor(faults ...fault) map[string]int64 {
-	codes := map[string]int64{}
-	for _, code := range []int64{impl.ErrInvalid, impl.ErrRange, impl.ErrOrder, impl.ErrState} {
-		for _, f := range faults {
-			for _, name := range strings.Fields(f.in) {
-				if f.code == code && codes[name] == impl.OK {
-					codes[name] = code
-				}
-			}
-		}
-	}
-	return codes
-}
-
-// expectCodes also expects that the functions without these codes return what they did.
-func expectCodes(t *testing.T, s setting, before map[string]outcome, codes map[string]int64) {
-	t.Helper()
-	for name, got := range outcomesOf(s) {
-		want := before[name]
-		if code, is := codes[name]; is {
-			want = nothing(code)
-		}
-		expectOutcome(t, got, want, name, s)
-	}
-}
-
 func TestErrorsOfFlows(t *testing.T) {
 	for _, good := range goodSettings() {
-		before := outcomesOf(good)
-		for name, o := range before {
-			if o.code != impl.OK {
-				t.Errorf("%s of %v returns the code %d", name, good, o.code)
-			}
-		}
-		faults := faultsOf(good)
-		for i, first := range faults {
-			for _, change := range first.changes {
-				s := good
-				change(&s)
-				expectCodes(t, s, before, codesFor(first))
-			}
-			for _, second := range faults[i+1:] {
-				// Of two changes of the same argument only the second one would be left.
-				if first.argument == second.argument {
-					continue
-				}
-				for k := range max(len(first.changes), len(second.changes)) {
-					s := good
-					first.changes[k%len(first.changes)](&s)
-					second.changes[k%len(second.changes)](&s)
-					expectCodes(t, s, before, codesFor(first, second))
-				}
-			}
-		}
+		expectErrors(t, good, outcomesOf, faultsOf(good))
 	}
 }
 
@@ -909,13 +812,7 @@ func wildSettings() []setting {
 func TestFlowsReturnTheSameForAllArguments(t *testing.T) {
 	settings := append(append(randomSettings(), wildSettings()...), goodSettings()...)
 	for _, good := range goodSettings() {
-		for _, f := range faultsOf(good) {
-			for _, change := range f.changes {
-				s := good
-				change(&s)
-				settings = append(settings, s)
-			}
-		}
+		settings = append(settings, faulty(good, faultsOf(good))...)
 	}
 	for _, s := range settings {
 		twice(t, "the functions of flows", func() []any { return flowResults(s) })
