@@ -270,6 +270,14 @@ func within[T cmp.Ordered](low, high T, values ...T) bool {
 	return least(low, values...) == low && greatest(high, values...) == high
 }
 
+// isBudget reports whether a number of nodes is one that a search may have.
+func isBudget(n int64) bool { return within(1, MaxBudget, n) }
+
+// areIndices reports whether numbers are strictly increasing indices of a list of so many things.
+func areIndices(count int, list ...int64) bool {
+	return within(0, int64(count)-1, list...) && areIncreasing(list)
+}
+
 // areIncreasing reports whether each value is greater than the one before it.
 func areIncreasing[T cmp.Ordered](list []T) bool {
 	for i, v := range list {
