@@ -3,6 +3,7 @@ package impl
 import (
 	"cmp"
 	"math/bits"
+	"slices"
 	"sort"
 	"strconv"
 	"strings"
@@ -240,11 +241,21 @@ func absolute(n int64) int64 { return max(n, -n) }
 
 // sumOf is for numbers within the limits of a chapter, whose sum fits.
 func sumOf(list []int64) int64 {
+	return sumBy(list, func(n int64) int64 { return n })
+}
+
+// sumBy is sumOf for numbers that things have.
+func sumBy[T any](things []T, number func(T) int64) int64 {
 	sum := int64(0)
-	for _, n := range list {
-		sum += n
+	for _, thing := range things {
+		sum += number(thing)
 	}
 	return sum
+}
+
+// areAll reports whether all things fit.
+func areAll[T any](things []T, fits func(T) bool) bool {
+	return !slices.ContainsFunc(things, func(thing T) bool { return !fits(thing) })
 }
 
 // namedText is the text of a thing with an Id and numbers.
@@ -252,13 +263,18 @@ func namedText(id string, numbers ...int64) string { return id + " " + ListText(
 
 // readNamed returns the valid thing with a namedText, which is built of its Id and of as many numbers as it has.
 func readNamed[T any](s string, count int, build func(id string, numbers []int64) T, valid func(T) bool) (T, bool) {
-	var none T
 	id, rest, _ := strings.Cut(s, " ")
-	numbers, ok := ReadList(rest)
+	return readNumbers(rest, count, func(numbers []int64) T { return build(id, numbers) }, valid)
+}
+
+// readNumbers returns the valid thing whose text is the ListText of its numbers, of which it is built.
+func readNumbers[T any](s string, count int, build func(numbers []int64) T, valid func(T) bool) (T, bool) {
+	var none T
+	numbers, ok := ReadList(s)
 	if !ok || len(numbers) != count {
 		return none, false
 	}
-	thing := build(id, numbers)
+	thing := build(numbers)
 	if !valid(thing) {
 		return none, false
 	}

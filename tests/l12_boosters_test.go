@@ -764,27 +764,32 @@ func TestBoostersThatAreFoundAreEnough(t *testing.T) {
 	}
 }
 
-// TestBudgetsOfBoosters finds the least budget with which a result is found, which is the number of sets that are tried.
+// expectBudgets finds the least budget with which a search among sets of candidates has a result, which is the number of sets that are tried.
+func expectBudgets(t *testing.T, candidates []int64, search func(budget int64) outcome, name string, args any) {
+	t.Helper()
+	want, sets := search(20000), setsInOrder(candidates)
+	nodes := int64(len(sets))
+	if want.code == impl.OK {
+		nodes = int64(slices.IndexFunc(sets, func(set []int64) bool { return slices.Equal(set, want.list) })) + 1
+	}
+	for budget := int64(1); budget < nodes+3; budget++ {
+		if budget < nodes {
+			expectOutcome(t, search(budget), nothing(impl.ErrFull), name, args, budget)
+		} else {
+			expectOutcome(t, search(budget), want, name, args, budget)
+		}
+	}
+}
+
 func TestBudgetsOfBoosters(t *testing.T) {
 	for i, d := range boosterDemands() {
 		if i%10 != 0 || len(d.candidates) > 7 {
 			continue
 		}
-		d.budget = 20000
-		want := boosters(d)
-		sets := setsInOrder(d.candidates)
-		nodes := int64(len(sets))
-		if want.code == impl.OK {
-			nodes = int64(slices.IndexFunc(sets, func(set []int64) bool { return slices.Equal(set, want.list) })) + 1
-		}
-		for budget := int64(1); budget < nodes+3; budget++ {
+		expectBudgets(t, d.candidates, func(budget int64) outcome {
 			d.budget = budget
-			if budget < nodes {
-				expectOutcome(t, boosters(d), nothing(impl.ErrFull), "FewestBoosters", d)
-			} else {
-				expectOutcome(t, boosters(d), want, "FewestBoosters", d)
-			}
-		}
+			return boosters(d)
+		}, "FewestBoosters", d)
 	}
 }
 
